@@ -1,0 +1,1 @@
+"""Pipeworks: the greatest flow from a spring to a drain."""
