@@ -5,6 +5,7 @@ A pipe is a tuple (start, goal, width). Nothing is refused here, and a plan need
 
 START = 0
 GOAL = 1
+WIDTH = 2
 
 
 def given_by(pipes, plan, station):
@@ -21,9 +22,9 @@ def given_by(pipes, plan, station):
 def side_width(pipes, side):
     on_side = marked(side)
     total = 0
-    for start, goal, width in pipes:
-        if start in on_side and goal not in on_side:
-            total += width
+    for pipe in pipes:
+        if pipe[START] in on_side and pipe[GOAL] not in on_side:
+            total += pipe[WIDTH]
     return total
 
 
